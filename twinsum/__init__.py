@@ -1,0 +1,1 @@
+"""Twinsum: two long books compared by sums kept in a tree."""
