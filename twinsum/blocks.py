@@ -1,4 +1,4 @@
-"""The blocks into which a count of rows is parted."""
+"""The blocks that a count of rows has."""
 
 
 def digits(count):
@@ -17,3 +17,10 @@ def parted(count):
             parts.append((height, start // size))
             start += size
     return parts
+
+
+def blocks_at(count, place):
+    """Tell the blocks of a count that have a place, from below, as tuples (height, number)."""
+    # Of height h a count has as many blocks as 2 ** h goes into it.
+    heights = range(digits(count))
+    return [(height, place >> height) for height in heights if place >> height < count >> height]

@@ -1,7 +1,7 @@
 """The ledger, which gives out sums."""
 
-from twinsum.errors import NoRow, NoSum
-from twinsum.kinds import is_row, is_whole
+from twinsum.errors import NoSum
+from twinsum.kinds import check_row, is_whole
 
 
 class Ledger:
@@ -14,8 +14,7 @@ class Ledger:
 
     def of_row(self, row):
         """Tell the sum of a row, a new one if it has none yet."""
-        if not is_row(row):
-            raise NoRow("a row is a text of 0 to 40 signs: a to z, 0 to 9, blanks")
+        check_row(row)
         return self._sum_of(row)
 
     def of_pair(self, one, other):
